@@ -1,0 +1,1 @@
+"""Mixserver: sounds of many put together beat by beat."""
