@@ -1,6 +1,8 @@
 """What may be handed in, and how the rest is refused."""
 
-from mixserver.errors import BadLead, BadName, BadPace, BadSoft, BadWait
+from mixserver.errors import BadArrivals, BadBounds, BadLead, BadName, BadPace, BadSoft, BadWait
+
+MOST_ARRIVALS = 30
 
 
 def is_whole(number, low, high):
@@ -42,3 +44,19 @@ def check_lead(loudness, beats):
     check_loudness(loudness)
     if not is_whole(beats, 1, 64):
         raise BadLead("a voice is led in 1 to 64 beats")
+
+
+def check_many(many):
+    if not is_whole(many, 1, 32):
+        raise BadBounds("a parcel is 1 to 32 numbers")
+
+
+def check_late(late):
+    if not is_whole(late, 0, 99):
+        raise BadBounds("parcels are late by 0 to 99 beats")
+
+
+def check_arrivals(arrivals):
+    for number, beat in enumerate(arrivals):
+        if number >= MOST_ARRIVALS or not is_whole(beat, 0, 9999):
+            raise BadArrivals(number)

@@ -2,6 +2,7 @@
 
 from mixserver.checks import is_whole
 from mixserver.errors import BadEnd, BadParcel
+from mixserver.paces import spot, wanted
 from mixserver.ratios import ratio
 
 # A voice's places are 0 to 999.
@@ -12,7 +13,7 @@ class Line:
     """The numbers that came, by their places, and where a beat is among them."""
 
     def __init__(self, pace, begin):
-        self.pace_numbers, self.pace_beats = pace
+        self.pace = pace
         self.begin = begin
         self.came = {}
         self.reach = 0
@@ -50,23 +51,18 @@ class Line:
     def begun(self, beat):
         return beat >= self.begin
 
-    def spot(self, beat):
-        """Tell the whole place at or ahead of the beat's, and how many parts of pace_beats lie between them."""
-        return divmod((beat - self.begin) * self.pace_numbers, self.pace_beats)
-
-    def wanted(self, beat):
+    def wants(self, beat):
         """Tell the whole places that the beat wants."""
-        low, rest = self.spot(beat)
-        return [low] if rest == 0 else [low, low + 1]
+        return wanted(self.pace, beat - self.begin)
 
     def over(self, beat):
-        return self.many is not None and self.wanted(beat)[-1] >= self.many
+        return self.many is not None and self.wants(beat)[-1] >= self.many
 
     def lacks(self, beat):
         """Tell whether the beat wants what didn't come."""
         if not self.begun(beat) or self.over(beat):
             return False
-        return any([at not in self.came for at in self.wanted(beat)])
+        return any([at not in self.came for at in self.wants(beat)])
 
     def ready(self, beat):
         """Tell whether the line has a value at the beat."""
@@ -74,8 +70,8 @@ class Line:
 
     def value(self, beat):
         """Tell the value at a beat for which the line is ready."""
-        low, rest = self.spot(beat)
+        low, rest = spot(self.pace, beat - self.begin)
         if rest == 0:
             return ratio(self.came[low], 1)
-        top = self.came[low] * (self.pace_beats - rest) + self.came[low + 1] * rest
-        return ratio(top, self.pace_beats)
+        beats = self.pace[1]
+        return ratio(self.came[low] * (beats - rest) + self.came[low + 1] * rest, beats)

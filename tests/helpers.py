@@ -31,6 +31,37 @@ def hand_all(mixer, name, numbers):
         mixer.parcel(name, place, numbers[place:place + 32])
 
 
+def sent(pace, wait, many, arrivals, ends):
+    """Tell which beats a mixer tells as missed until it wants a place behind all parcels.
+
+    The parcels, of many numbers each, come at the arrivals, beats counted from wait beats ahead of the voice's begin.
+    """
+    total = many * len(arrivals)
+    # A voice can't wait for more than 64 beats, but it may be added later.
+    late = max(0, wait - 64)
+    mixer = Mixer(1)
+    beats(mixer, late)
+    mixer.add(0, pace, wait - late, FULL)
+    if ends:
+        mixer.end(0, total)
+    while (mixer.now() - wait) * pace[0] <= (total - 1) * pace[1]:
+        for parcel, beat in enumerate(arrivals):
+            if beat == mixer.now() or beat < late == mixer.now():
+                mixer.parcel(0, parcel * many, [parcel - 50] * many)
+        mixer.beat()
+    return [beat for _, beat in mixer.missed()]
+
+
+def refused(test, error, act, *words):
+    """Test that something is refused by this very error and leaves what it is handed, and tell the error."""
+    handed = copy.deepcopy(words)
+    with test.assertRaises(error) as caught:
+        act(*words)
+    test.assertIs(type(caught.exception), error)
+    test.assertEqual(words, handed)
+    return caught.exception
+
+
 def steady(soft, number=8, loudness=FULL):
     """Make a mixer of one voice, 0, of one value for 200 beats."""
     return mixer_of(soft, [number] * 200, loudness=loudness)

@@ -3,9 +3,12 @@
 import math
 import unittest
 
+from mixserver.bounds import enough, judged
 from mixserver.errors import (BadEnd, BadLead, BadName, BadPace, BadParcel, BadSoft, BadWait, MixError, NoVoice,
                               There)
 from mixserver.mixer import Mixer
+from mixserver.plays import played, read, written
+from tests.chance import as_play, deeds, taken
 from tests.helpers import FULL, beats, mixer_of, refuse, steady, told, whole
 
 
@@ -208,6 +211,35 @@ class NothingIsTold(unittest.TestCase):
         self.assertIsNone(mixer.lead(0, 1, 1))
         self.assertIsNone(mixer.hush(0))
         self.assertIsNone(mixer.wake(0))
+
+
+class AllOfTheProgram(unittest.TestCase):
+    def test_plays_tell_fractions_in_lowest_terms(self):
+        for seed in range(20):
+            sums, _, states = played(7, as_play(taken(7, deeds(seed, 200))))
+            for top, bottom in sums + [part for row in states for part in row[2:]]:
+                self.assertEqual((type(top), type(bottom)), (int, int))
+                self.assertGreater(bottom, 0)
+                self.assertEqual(math.gcd(top, bottom), 1)
+
+    def test_asked_again_the_same_is_told(self):
+        rows = as_play(taken(3, deeds(5, 200)))
+        arrivals = [50, 3, 90, 20]
+        asked = [lambda: enough((3, 5), 7, 20), lambda: judged((3, 5), 9, 7, arrivals), lambda: played(3, rows),
+                 lambda: written(rows), lambda: read(written(rows))]
+        first = [ask() for ask in asked]
+        for _ in range(3):
+            for ask, answer in reversed(list(zip(asked, first))):
+                self.assertEqual(ask(), answer)
+
+    def test_a_mixer_knows_nothing_of_plays(self):
+        mixer, twin = busy(), busy()
+        for seed in range(5):
+            played(5, as_play(taken(5, deeds(seed, 200))))
+            judged((1, 1), 0, 1, [9, 9])
+            enough((1, 1), 1, 9)
+            self.assertEqual(told(mixer), told(twin))
+            self.assertEqual(mixer.beat(), twin.beat())
 
 
 if __name__ == "__main__":
